@@ -1,0 +1,1 @@
+"""Middlewebs: median graphs and the five other forms of the same thing."""

@@ -1,0 +1,49 @@
+"""What a value must be before the other files work with it."""
+
+from middlewebs.errors import InvalidNumber
+
+MOST_VERTICES = 40
+
+
+def is_integer(value):
+    """Whether the value is an integer; True and False are none."""
+    return isinstance(value, int) and not isinstance(value, bool)
+
+
+def is_integer_within(value, least, greatest):
+    """Whether the value is an integer from the least to the greatest one."""
+    return is_integer(value) and least <= value <= greatest
+
+
+def is_sequence(value):
+    """Whether the value is a list or a tuple."""
+    return isinstance(value, (list, tuple))
+
+
+def is_pair(value):
+    """Whether the value is a tuple of two members."""
+    return isinstance(value, tuple) and len(value) == 2
+
+
+def is_vertex(graph, value):
+    """Whether the value is a vertex of the graph."""
+    return is_integer_within(value, 0, graph.size - 1)
+
+
+def is_subset(graph, value):
+    """Whether the value is an ascending tuple of vertices of the graph."""
+    if not isinstance(value, tuple):
+        return False
+    before = -1
+    for vertex in value:
+        if not is_vertex(graph, vertex) or vertex <= before:
+            return False
+        before = vertex
+    return True
+
+
+def check_vertices(graph, values):
+    """Raise InvalidNumber with the first of the values that is no vertex."""
+    for value in values:
+        if not is_vertex(graph, value):
+            raise InvalidNumber(value)
