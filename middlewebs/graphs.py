@@ -40,17 +40,15 @@ def _distances_from(near, start):
     """The distance of each vertex from one of them, -1 where no path leads."""
     found = [-1 for _ in near]
     found[start] = 0
-    front = [start]
-    steps = 0
-    while front:
-        steps = steps + 1
-        reached = []
-        for vertex in front:
-            for neighbor in near[vertex]:
-                if found[neighbor] < 0:
-                    found[neighbor] = steps
-                    reached.append(neighbor)
-        front = reached
+    queue = [start]
+    at = 0
+    while at < len(queue):
+        vertex = queue[at]
+        at = at + 1
+        for neighbor in near[vertex]:
+            if found[neighbor] < 0:
+                found[neighbor] = found[vertex] + 1
+                queue.append(neighbor)
     return tuple(found)
 
 
