@@ -1,8 +1,9 @@
 """What a value must be before the other files work with it."""
 
-from middlewebs.errors import InvalidNumber
+from middlewebs.errors import InvalidEdge, InvalidNumber
 
 MOST_VERTICES = 40
+MOST_LETTERS = 39
 
 
 def is_integer(value):
@@ -23,6 +24,13 @@ def is_sequence(value):
 def is_pair(value):
     """Whether the value is a tuple of two members."""
     return isinstance(value, tuple) and len(value) == 2
+
+
+def is_word(value):
+    """Whether the value is a tuple of at most 39 bits."""
+    if not isinstance(value, tuple) or len(value) > MOST_LETTERS:
+        return False
+    return all([is_integer_within(letter, 0, 1) for letter in value])
 
 
 def is_vertex(graph, value):
@@ -47,3 +55,10 @@ def check_vertices(graph, values):
     for value in values:
         if not is_vertex(graph, value):
             raise InvalidNumber(value)
+
+
+def check_edges(graph, values):
+    """Raise InvalidEdge with the first of the values that is no pair of joined vertices, in either order."""
+    for value in values:
+        if value not in graph:
+            raise InvalidEdge(value)

@@ -1,6 +1,7 @@
 """Graphs to test with, and slow answers worked out from the words of the document alone."""
 
 import unittest
+from functools import lru_cache
 from itertools import combinations
 
 from middlewebs.graphs import Graph
@@ -59,6 +60,107 @@ def all_graphs():
     return median_graphs() + other_graphs() + large_graphs()
 
 
+def joined(size, pairs):
+    """The graph with these edges, whose ends and order are as it comes."""
+    return Graph(size, sorted({(min(a, b), max(a, b)) for a, b in pairs}))
+
+
+def renamed_by(graph, names):
+    """The graph in which names[v] is what v is here."""
+    return joined(graph.size, [(names[a], names[b]) for a, b in graph.edges])
+
+
+def mixed(graph, step):
+    """The graph renamed: its vertices are counted off in steps that have no common divisor with its size."""
+    while any(step % k == 0 and graph.size % k == 0 for k in range(2, graph.size + 1)):
+        step += 1
+    return renamed_by(graph, [(step * v + step) % graph.size for v in graph])
+
+
+def connected(size, edges):
+    reached = {0}
+    while True:
+        more = reached | {b for a, b in edges if a in reached} | {a for a, b in edges if b in reached}
+        if more == reached:
+            return len(reached) == size
+        reached = more
+
+
+@lru_cache(maxsize=None)
+def tiny_graphs(most):
+    """All graphs of at most so many vertices."""
+    graphs = []
+    for size in range(1, most + 1):
+        pairs = list(combinations(range(size), 2))
+        for bits in range(2 ** len(pairs)):
+            edges = [pair for k, pair in enumerate(pairs) if bits >> k & 1]
+            if connected(size, edges):
+                graphs.append(Graph(size, edges))
+    return tuple(graphs)
+
+
+def expanded_by_hand(graph, subset):
+    """The graph with a copy of each vertex of the subset, joined to it and to the copies of its neighbors."""
+    copies = {v: graph.size + k for k, v in enumerate(subset)}
+    between = [(copies[a], copies[b]) for a, b in graph.edges if a in copies and b in copies]
+    return joined(graph.size + len(subset), [*graph.edges, *copies.items(), *between])
+
+
+@lru_cache(maxsize=None)
+def grown_graphs():
+    """Median graphs of many sizes, each built from one vertex by expansions over convex subsets."""
+    graphs = []
+    state = 7
+    for most in (3, 6, 9, 12, 16, 20, 25, 30, 35, 40):
+        graph = Graph(1, [])
+        while graph.size < most:
+            table = table_of(graph)
+            state = (state * 1103515245 + 12345) % 2 ** 31
+            a, b, far = state % graph.size, state // 64 % graph.size, state // 4096 % 4
+            subset = interval_in(table, a, b) if far else tuple(graph)
+            # In a median graph every interval is convex; one that is too large gives way to a single vertex.
+            graph = expanded_by_hand(graph, subset if graph.size + len(subset) <= most else (a,))
+        graphs.append(mixed(graph, 7))
+    return tuple(graphs)
+
+
+def one_edge_more_or_less(graph):
+    """The graphs that have all but one of the edges, or all of them and one more."""
+    edges = list(graph.edges)
+    less = [[edge for edge in edges if edge != gone] for gone in edges]
+    more = [edges + [pair] for pair in combinations(range(graph.size), 2) if pair not in edges]
+    return [joined(graph.size, some) for some in less + more if connected(graph.size, some)]
+
+
+def changed_graphs():
+    """Median graphs with one edge more or less."""
+    return [changed for graph in median_graphs() for changed in one_edge_more_or_less(graph)]
+
+
+def many_median_graphs():
+    """Median graphs of 1 to 40 vertices, also renamed ones."""
+    large = [Graph.path(40), Graph.cube(5), Graph.path(8) * Graph.path(5), Graph.cube(3) * Graph.path(5)]
+    large.append(Graph(40, [(0, k) for k in range(1, 40)]))
+    graphs = median_graphs() + list(grown_graphs()) + large
+    return graphs + [mixed(graph, 5) for graph in median_graphs() + large]
+
+
+def complete_pair(one, other):
+    """The graph in which each of the first vertices is joined to each of the others."""
+    return Graph(one + other, [(a, b) for a in range(one) for b in range(one, one + other)])
+
+
+def other_large_graphs():
+    """Graphs of many vertices that are no median graphs: some without sides, then some with sides."""
+    complete = Graph(40, list(combinations(range(40), 2)))
+    without_sides = [complete, Graph.cycle(39), Graph.cycle(3) * Graph.path(13), Graph.cycle(5) * Graph.cycle(8)]
+    with_sides = [
+        Graph.cycle(40), Graph.cycle(20) * Graph.path(2), complete_pair(2, 38), complete_pair(20, 20),
+        Graph.cycle(6) * Graph.cycle(6), Graph(7, THREE_SQUARES) * Graph.path(5),
+    ]
+    return without_sides + with_sides + [mixed(graph, 11) for graph in with_sides]
+
+
 def table_of(graph):
     """All distances, by going through each vertex in turn as a way between each two others."""
     far = 10 ** 6
@@ -104,6 +206,16 @@ def no_vertices(graph):
     return [
         -1, size, size + 1, 40, 10 ** 30, -(10 ** 30), True, False, None, "", "0", "vertex",
         (), (0,), [], [0], graph, Graph.path(2),
+    ]
+
+
+def no_edges(graph):
+    """Values of all kinds that are no pair of joined vertices of the graph, in which (0, 1) are joined."""
+    wrong = [(0, value) for value in no_vertices(graph)] + [(value, 1) for value in no_vertices(graph)]
+    apart = [(a, b) for a in graph for b in graph if (min(a, b), max(a, b)) not in graph.edges]
+    return wrong + apart[:9] + apart[-9:] + [
+        None, True, False, 0, 1, -1, 10 ** 30, "", "01", "0-1", (), (0,), (0, 1, 0), (0, 1, 1), [], [0, 1], [1, 0],
+        ((0, 1),), [(0, 1)], ((0, 1), (0, 1)), ((0,), (1,)), ([0], [1]), (0, [1]), graph, Graph.path(2),
     ]
 
 

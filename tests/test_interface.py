@@ -1,6 +1,7 @@
 """The interface and the form of the code: where each name is defined, and how its parameters are called."""
 
 import ast
+import builtins
 import importlib
 import inspect
 import unittest
@@ -24,7 +25,25 @@ FUNCTIONS = {
         "apart": ["graph", "subsets"],
     },
     "graphs": {"Graph": ["size", "edges"]},
+    "medians": {
+        "medians": ["graph", "a", "b", "c"],
+        "median": ["graph", "a", "b", "c"],
+        "is_median_graph": ["graph"],
+        "wrong_triple": ["graph"],
+    },
+    "parallels": {
+        "are_parallel": ["graph", "one", "other"],
+        "parallel_classes": ["graph"],
+        "wrong_edges": ["graph"],
+        "half": ["graph", "edge"],
+    },
+    "sides": {"sides": ["graph"], "odd_cycle": ["graph"]},
+    "labelings": {"is_labeling": ["graph", "value"], "labeling": ["graph"]},
 }
+BUILTINS = """
+len range enumerate zip min max sum abs sorted reversed int str bool list tuple dict set isinstance ord repr any all
+divmod iter ValueError NotImplemented classmethod
+""".split()
 GRAPH_METHODS = {"neighbors": ["vertex"], "path": ["number"], "cycle": ["number"], "cube": ["number"]}
 
 
@@ -84,6 +103,53 @@ class Form(unittest.TestCase):
                     for name in node.names:
                         value = getattr(module, name.name)
                         self.assertEqual(getattr(value, "__module__", node.module), node.module)
+
+    def test_imports_do_not_lead_back(self):
+        needs = {
+            f"middlewebs.{path.stem}": [
+                node.module for node in ast.walk(ast.parse(path.read_text())) if isinstance(node, ast.ImportFrom)
+            ]
+            for path in self.files()
+        }
+        while needs:
+            ready = [name for name in needs if not any(other in needs for other in needs[name])]
+            self.assertNotEqual(ready, [])
+            needs = {name: needs[name] for name in needs if name not in ready}
+
+    def bound_names(self, tree):
+        for node in ast.walk(tree):
+            if isinstance(node, ast.Name) and isinstance(node.ctx, ast.Store):
+                yield node.id
+            if isinstance(node, ast.arg):
+                yield node.arg
+            if isinstance(node, (ast.FunctionDef, ast.ClassDef)):
+                yield node.name
+
+    def test_no_name_is_a_builtin_or_an_import_or_a_class(self):
+        for path in self.files():
+            tree = ast.parse(path.read_text())
+            taken = [name.name for node in tree.body if isinstance(node, ast.ImportFrom) for name in node.names]
+            self.assertEqual(len(set(taken)), len(taken), path.name)
+            bound = list(self.bound_names(tree))
+            self.assertEqual([name for name in bound if name in taken or name in dir(builtins)], [], path.name)
+            for node in tree.body:
+                if isinstance(node, ast.ClassDef):
+                    self.assertEqual(bound.count(node.name), 1, path.name)
+
+    def test_only_some_builtins_are_used(self):
+        for path in self.files():
+            for node in ast.walk(ast.parse(path.read_text())):
+                if isinstance(node, ast.Name) and isinstance(node.ctx, ast.Load) and node.id in dir(builtins):
+                    self.assertIn(node.id, BUILTINS, path.name)
+
+    def test_what_is_left_out(self):
+        for path in self.files():
+            for node in ast.walk(ast.parse(path.read_text())):
+                # Where a class has __eq__, as Graph has, any, all, sum, sorted and the like take lists instead.
+                self.assertNotIsInstance(node, (ast.GeneratorExp, ast.Global), path.name)
+                if isinstance(node, ast.Constant) and isinstance(node.value, str):
+                    self.assertNotIn("%", node.value, path.name)
+                    self.assertNotIn("\\", node.value, path.name)
 
 
 if __name__ == "__main__":
