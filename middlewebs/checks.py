@@ -4,6 +4,9 @@ from middlewebs.errors import InvalidEdge, InvalidNumber
 
 MOST_VERTICES = 40
 MOST_LETTERS = 39
+MOST_WORDS = 40
+MOST_EVENTS = 39
+MOST_STATES = 40
 
 
 def is_integer(value):
@@ -33,21 +36,31 @@ def is_word(value):
     return all([is_integer_within(letter, 0, 1) for letter in value])
 
 
+def is_word_of(value, length):
+    """Whether the value is a word of so many letters."""
+    return is_word(value) and len(value) == length
+
+
 def is_vertex(graph, value):
     """Whether the value is a vertex of the graph."""
     return is_integer_within(value, 0, graph.size - 1)
 
 
-def is_subset(graph, value):
-    """Whether the value is an ascending tuple of vertices of the graph."""
+def are_ascending(value, many):
+    """Whether the value is an ascending tuple of integers from 0 to many - 1."""
     if not isinstance(value, tuple):
         return False
     before = -1
-    for vertex in value:
-        if not is_vertex(graph, vertex) or vertex <= before:
+    for member in value:
+        if not is_integer_within(member, before + 1, many - 1):
             return False
-        before = vertex
+        before = member
     return True
+
+
+def is_subset(graph, value):
+    """Whether the value is an ascending tuple of vertices of the graph."""
+    return are_ascending(value, graph.size)
 
 
 def check_vertices(graph, values):

@@ -1,9 +1,12 @@
-"""Graphs to test with, and slow answers worked out from the words of the document alone."""
+"""Things to test with, and slow answers worked out from the words of the document alone."""
 
+import copy
+import random
 import unittest
 from functools import lru_cache
-from itertools import combinations
+from itertools import combinations, product
 
+from middlewebs.errors import MiddleError
 from middlewebs.graphs import Graph
 
 TREE_EDGES = [(0, 1), (0, 2), (1, 3), (1, 4), (2, 5), (5, 6)]
@@ -229,6 +232,177 @@ def no_subsets(graph):
     ]
 
 
+def nested(value, times):
+    return (nested(value, times - 1),) if times else value
+
+
+DEEP = nested(0, 10)
+
+
+def all_words(length):
+    return list(product((0, 1), repeat=length))
+
+
+def majority_of(one, other, third):
+    return tuple(1 if x + y + z >= 2 else 0 for x, y, z in zip(one, other, third))
+
+
+def closure_of(words):
+    """The least set that has the words and the majority of every three of its members."""
+    found = set(words)
+    while True:
+        more = found | {majority_of(*three) for three in combinations(sorted(found), 3)}
+        if more == found:
+            return sorted(found)
+        found = more
+
+
+@lru_cache(maxsize=None)
+def word_sets():
+    """Pairs of a length from 0 to 5 and some ascending words of it, closed and not, reduced and not."""
+    picked = random.Random(13)
+    pairs = [(0, [()]), (1, [(0,)]), (1, [(1,)]), (1, [(0,), (1,)])]
+    for length in range(2, 6):
+        pairs.append((length, all_words(length)))
+        for _ in range(12 * length):
+            some = picked.sample(all_words(length), picked.randint(1, min(8, 2 ** length)))
+            if picked.random() < 0.3:
+                some = closure_of(some)
+            if picked.random() < 0.3:
+                # One more letter that is linked to another one or constant.
+                k = picked.randrange(length)
+                some = [word + ((1 - word[k],) if k % 2 == 0 else (word[0],) if k == 1 else (1,)) for word in some]
+            pairs.append((len(some[0]), sorted(some)))
+    return tuple(pairs)
+
+
+def steps_of(length):
+    """The words 00..0, 10..0, 110..0 and so on, ascending."""
+    return [(1,) * k + (0,) * (length - k) for k in range(length + 1)]
+
+
+def single_letters(length):
+    """The words with exactly one letter 1, ascending."""
+    return sorted(tuple(int(k == at) for k in range(length)) for at in range(length))
+
+
+def no_words(length):
+    """Values of all kinds that are no word of this length, which is 2 at least."""
+    right = (0,) * length
+    letters = [True, False, None, "", "0", "1", 2, -1, 3, 10 ** 30, -(10 ** 30), (), (0,), [], [0], [1], Graph(1, [])]
+    lacking = [right[:-1], right + (0,), (), (0,), right * 40, [], [0] * length, list(right)]
+    wrong = [right[:k] + (letter,) + right[k + 1:] for letter in letters for k in (0, length - 1)]
+    return lacking + wrong + [
+        None, True, False, 0, 1, -1, 10 ** 30, "", "0" * length, "1" * length, (right,), [right], Graph.path(2),
+        DEEP, (True,) * length, tuple(letter == 1 for letter in right),
+    ]
+
+
+def no_numbers(least, greatest):
+    """Values of all kinds that are no integer from the least to the greatest one, which are small."""
+    return [
+        least - 1, greatest + 1, greatest + 2, 100, 10 ** 30, -(10 ** 30), True, False, None, "", str(greatest),
+        (), (1,), [], [1], [[1]], Graph(1, []),
+    ]
+
+
+def no_sequences():
+    """Values of all kinds that are neither lists nor tuples."""
+    return [None, True, False, 0, 1, -1, 10 ** 30, "", "0", "01", "abc", Graph(1, []), Graph.path(3)]
+
+
+def literals_of(letters):
+    return [(place, bit) for place in range(letters) for bit in (0, 1)]
+
+
+def clauses_of(letters):
+    """All clauses for words of so many letters, ascending."""
+    literals = literals_of(letters)
+    return sorted([(one,) for one in literals] + [pair for pair in combinations(literals, 2) if pair[0][0] < pair[1][0]])
+
+
+def is_true_in(clause, word):
+    return any(word[place] == bit for place, bit in clause)
+
+
+def settings_of(letters, clauses):
+    return [word for word in all_words(letters) if all(is_true_in(clause, word) for clause in clauses)]
+
+
+@lru_cache(maxsize=None)
+def clause_sets():
+    """Pairs of a number of letters from 0 to 5 and some ascending clauses, with settings and without."""
+    picked = random.Random(29)
+    pairs = [(0, []), (1, []), (1, clauses_of(1)), (2, clauses_of(2)), (3, clauses_of(3)), (5, [])]
+    for letters in range(1, 6):
+        for _ in range(40):
+            every = clauses_of(letters)
+            pairs.append((letters, sorted(picked.sample(every, min(len(every), picked.randint(0, 3 * letters))))))
+    return tuple(pairs)
+
+
+def step_clauses(letters):
+    """Clauses that hold for the words of steps_of alone."""
+    return [((k, 1), (k + 1, 0)) for k in range(letters - 1)]
+
+
+def no_clauses(letters):
+    """Values of all kinds that are no clause for words of so many letters, which are 3 at least."""
+    numbers = [-1, letters, letters + 1, 10 ** 30, True, False, None, "", "0", (), (0,), [], [0], Graph(1, [])]
+    bits = [-1, 2, 3, 10 ** 30, True, False, None, "", "0", "1", (), (0,), [], [1], Graph(1, [])]
+    literals = [(place, 0) for place in numbers] + [(0, bit) for bit in bits]
+    literals += [None, 0, 1, True, "", "00", (), (0,), (0, 1, 0), [], [0, 1], Graph.path(2)]
+    wrong = [(literal,) for literal in literals] + [(literal, (2, 1)) for literal in literals]
+    wrong += [((0, 1), literal) for literal in literals]
+    return wrong + literals + [
+        ((0, 0), (0, 0)), ((0, 0), (0, 1)), ((0, 1), (0, 0)), ((1, 0), (0, 0)), ((2, 1), (0, 1)), (0, 1),
+        ((0, 0), (1, 0), (2, 0)), [(0, 0)], [(0, 0), (1, 0)], ([0, 0],), ((0, 0), [1, 0]), (((0, 0),),), ((0, 0), ((1, 0),)), "0", "!0 1", [],
+        DEEP,
+    ]
+
+
+def states_of(many, causes, conflicts):
+    """All states, those with fewer events first and those with as many ascending."""
+    tried = [state for size in range(many + 1) for state in combinations(range(many), size)]
+    return [
+        state for state in tried
+        if all(a in state for a, b in causes if b in state)
+        and not any(a in state and b in state for a, b in conflicts)
+    ]
+
+
+@lru_cache(maxsize=None)
+def event_sets():
+    """Triples of a number of events from 0 to 6, causes and conflicts, few and many, in any order."""
+    picked = random.Random(41)
+    triples = [(0, [], []), (1, [], []), (2, [(1, 0)], []), (2, [(0, 1)], [(0, 1)]), (5, [], []), (6, [], [])]
+    for many in range(2, 7):
+        pairs = list(combinations(range(many), 2))
+        for _ in range(30):
+            order = picked.sample(range(many), many)
+            often, seldom = picked.choice([(0.5, 0.1), (0.1, 0.5), (0.3, 0.3), (0.1, 0.05), (0.4, 0)])
+            causes = [(order[a], order[b]) for a, b in pairs if picked.random() < often]
+            triples.append((many, sorted(causes), [pair for pair in pairs if picked.random() < seldom]))
+    return tuple(triples)
+
+
+def no_states(many):
+    """Values of all kinds that are no ascending tuples of events, of which there are 3 at least."""
+    numbers = [-1, many, many + 1, 10 ** 30, -(10 ** 30), True, False, None, "", "0", (), (0,), [], [0], Graph(1, [])]
+    return [(number,) for number in numbers] + [(0, number) for number in numbers] + [
+        None, True, False, 0, 1, -1, "", "0", "012", [], [0], [0, 1], [[0]], Graph(1, []), Graph.path(many),
+        (1, 0), (0, 0), (0, 2, 1), (0, 1, 1), tuple(range(many + 1)), ((0, 1),), DEEP,
+    ]
+
+
+def outcome(call, *args, **named):
+    """What the call returns, or the class and the arguments of its error."""
+    try:
+        return ("returned", call(*args, **named))
+    except MiddleError as error:
+        return (type(error).__name__, *vars(error).values())
+
+
 def same_kind(one, other):
     """Whether two values are equal and of the same kinds, within tuples and lists, too."""
     if type(one) is not type(other):
@@ -253,3 +427,11 @@ class Case(unittest.TestCase):
         for name in attributes:
             self.assert_same(getattr(error, name), attributes[name])
         return error
+
+    def assert_refused(self, error_class, call, *args, **named):
+        """The call raises this error with just its last argument, and leaves all of its arguments as they were."""
+        before = copy.deepcopy((args, named))
+        value = list(named.values())[-1] if named else args[-1]
+        error = self.assert_told(error_class, {"value": value}, call, *args, **named)
+        self.assertIs(error.value, value)
+        self.assertEqual((args, named), before)
