@@ -7,7 +7,10 @@ import inspect
 import unittest
 from pathlib import Path
 
+from middlewebs.clauses import Clauses
+from middlewebs.events import Events
 from middlewebs.graphs import Graph
+from middlewebs.words import Words
 
 PACKAGE = Path(__file__).resolve().parent.parent / "middlewebs"
 
@@ -39,6 +42,40 @@ FUNCTIONS = {
     },
     "sides": {"sides": ["graph"], "odd_cycle": ["graph"]},
     "labelings": {"is_labeling": ["graph", "value"], "labeling": ["graph"]},
+    "words": {
+        "Words": ["length", "words"],
+        "majority": ["one", "other", "third"],
+        "is_closed": ["words"],
+        "wrong_words": ["words"],
+        "closed": ["words"],
+        "is_reduced": ["words"],
+        "kept_letters": ["words"],
+        "reduced": ["words"],
+    },
+    "wordgraphs": {"words_graph": ["words"], "graph_words": ["graph"]},
+    "clauses": {"Clauses": ["letters", "clauses"], "holds": ["clauses", "word"]},
+    "settings": {
+        "settings": ["clauses"],
+        "clauses_words": ["clauses"],
+        "contradiction": ["clauses"],
+        "is_contradiction": ["clauses", "value"],
+        "follows": ["clauses", "clause"],
+    },
+    "wordclauses": {"words_clauses": ["words"], "further_word": ["words"], "spared": ["clauses"]},
+    "events": {
+        "Events": ["many", "causes", "conflicts"],
+        "is_state": ["events", "value"],
+        "states": ["events"],
+        "impossible": ["events"],
+        "merged": ["events", "one", "other"],
+        "conflict": ["events", "one", "other"],
+    },
+    "eventgraphs": {"events_graph": ["events"], "graph_events": ["graph", "start"], "completed": ["events"]},
+    "names": {
+        "are_names": ["one", "other", "value"],
+        "names_to": ["one", "other"],
+        "renamed": ["graph", "names"],
+    },
 }
 BUILTINS = """
 len range enumerate zip min max sum abs sorted reversed int str bool list tuple dict set isinstance ord repr any all
@@ -64,11 +101,18 @@ class Interface(unittest.TestCase):
             self.assertEqual(list(inspect.signature(getattr(graph, name)).parameters), parameters)
         for name in ("__init__", "__len__", "__iter__", "__contains__", "__eq__", "__mul__"):
             self.assertIn(name, vars(Graph))
+        for name in ("__init__", "__len__", "__iter__", "__contains__", "__eq__"):
+            self.assertIn(name, vars(Words))
+        for name in ("__init__", "__eq__"):
+            self.assertIn(name, vars(Clauses))
+            self.assertIn(name, vars(Events))
 
     def test_attributes_are_set_on_each_object(self):
         for graph in (Graph(1, []), Graph.cube(3), Graph.path(2) * Graph.path(2)):
-            self.assertIn("size", vars(graph))
-            self.assertIn("edges", vars(graph))
+            self.assertLessEqual({"size", "edges"}, set(vars(graph)))
+        self.assertLessEqual({"length", "words"}, set(vars(Words(0, [()]))))
+        self.assertLessEqual({"letters", "clauses"}, set(vars(Clauses(0, []))))
+        self.assertLessEqual({"many", "causes", "conflicts"}, set(vars(Events(0, [], []))))
 
 
 class Form(unittest.TestCase):
