@@ -41,9 +41,9 @@ def holds(clauses, word):
     """Whether all of the clauses are true in the word."""
     if not is_word_of(word, clauses.letters):
         raise InvalidWord(word)
-    return all([_is_true(clause, word) for clause in clauses.clauses])
+    return all([is_true(clause, word) for clause in clauses.clauses])
 
 
-def _is_true(clause, word):
+def is_true(clause, word):
     """Whether one of the clause's literals is true in the word."""
     return any([word[place] == bit for place, bit in clause])

@@ -10,6 +10,11 @@ def is_convex(graph, subset):
     return convex_hull(graph, subset) == subset
 
 
+def is_filled_convex(graph, value):
+    """Whether the value is a convex subset that is not empty."""
+    return is_subset(graph, value) and len(value) > 0 and is_convex(graph, value)
+
+
 def convex_hull(graph, subset):
     """The least convex subset that has all vertices of this one."""
     if not is_subset(graph, subset):
@@ -61,7 +66,7 @@ def _check_subsets(graph, subsets):
     if not is_sequence(subsets) or len(subsets) == 0:
         raise InvalidSubset(subsets)
     for subset in subsets:
-        if not is_subset(graph, subset) or len(subset) == 0 or not is_convex(graph, subset):
+        if not is_filled_convex(graph, subset):
             raise InvalidSubset(subset)
 
 

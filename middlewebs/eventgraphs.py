@@ -2,11 +2,10 @@
 
 from middlewebs.bits import bits_of, has_one_place, has_place
 from middlewebs.checks import check_vertices
-from middlewebs.errors import Undefined
 from middlewebs.events import Events, foes_of, impossible, past_of, states
 from middlewebs.graphs import Graph
 from middlewebs.labelings import labeling
-from middlewebs.medians import is_median_graph
+from middlewebs.medians import check_median_graph
 
 
 def events_graph(events):
@@ -20,8 +19,7 @@ def events_graph(events):
 def graph_events(graph, start):
     """The events of a median graph: crossing each parallel class, seen from the start."""
     check_vertices(graph, (start,))
-    if not is_median_graph(graph):
-        raise Undefined("median")
+    check_median_graph(graph)
     words = labeling(graph)
     places = range(len(words[start]))
     owners = [bits_of([vertex for vertex in graph if words[vertex][k] != words[start][k]]) for k in places]

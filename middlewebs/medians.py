@@ -28,6 +28,12 @@ def is_median_graph(graph):
     return _first_wrong_triple(graph) is None
 
 
+def check_median_graph(graph):
+    """Raise Undefined unless every three vertices have exactly one median."""
+    if not is_median_graph(graph):
+        raise Undefined("median")
+
+
 def wrong_triple(graph):
     """The first triple (a, b, c), a < b < c, that has no median or more than one."""
     triple = _first_wrong_triple(graph)

@@ -9,7 +9,9 @@ from pathlib import Path
 
 from middlewebs.clauses import Clauses
 from middlewebs.events import Events
+from middlewebs.folds import Folding
 from middlewebs.graphs import Graph
+from middlewebs.growth import Growth
 from middlewebs.words import Words
 
 PACKAGE = Path(__file__).resolve().parent.parent / "middlewebs"
@@ -71,6 +73,26 @@ FUNCTIONS = {
         "conflict": ["events", "one", "other"],
     },
     "eventgraphs": {"events_graph": ["events"], "graph_events": ["graph", "start"], "completed": ["events"]},
+    "growth": {
+        "expanded": ["graph", "subset"],
+        "Growth": ["subsets"],
+        "grown": ["growth"],
+        "peripheral_halves": ["graph"],
+        "growth_of": ["graph"],
+        "is_growth_of": ["graph", "value"],
+    },
+    "folds": {
+        "fold": ["words", "word"],
+        "folding": ["words"],
+        "Folding": ["length", "images"],
+        "folded_words": ["folding"],
+    },
+    "totals": {
+        "total": ["graph", "weights", "vertex"],
+        "least_vertices": ["graph", "weights"],
+        "center": ["graph"],
+    },
+    "cubes": {"cubes": ["graph"], "cube_counts": ["graph"]},
     "names": {
         "are_names": ["one", "other", "value"],
         "names_to": ["one", "other"],
@@ -104,8 +126,8 @@ class Interface(unittest.TestCase):
         for name in ("__init__", "__len__", "__iter__", "__contains__", "__eq__"):
             self.assertIn(name, vars(Words))
         for name in ("__init__", "__eq__"):
-            self.assertIn(name, vars(Clauses))
-            self.assertIn(name, vars(Events))
+            for each in (Clauses, Events, Growth, Folding):
+                self.assertIn(name, vars(each))
 
     def test_attributes_are_set_on_each_object(self):
         for graph in (Graph(1, []), Graph.cube(3), Graph.path(2) * Graph.path(2)):
@@ -113,6 +135,8 @@ class Interface(unittest.TestCase):
         self.assertLessEqual({"length", "words"}, set(vars(Words(0, [()]))))
         self.assertLessEqual({"letters", "clauses"}, set(vars(Clauses(0, []))))
         self.assertLessEqual({"many", "causes", "conflicts"}, set(vars(Events(0, [], []))))
+        self.assertLessEqual({"subsets"}, set(vars(Growth([]))))
+        self.assertLessEqual({"length", "images"}, set(vars(Folding(0, ((),)))))
 
 
 class Form(unittest.TestCase):
