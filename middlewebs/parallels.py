@@ -22,6 +22,13 @@ def parallel_classes(graph):
     return tuple(classes)
 
 
+def class_place(graph, edge):
+    """The place of the parallel class to which an edge belongs, given with its ends in either order."""
+    check_edges(graph, (edge,))
+    ends = (min(edge), max(edge))
+    return [place for place, members in enumerate(parallel_classes(graph)) if ends in members][0]
+
+
 def wrong_edges(graph):
     """The first triple (e, f, g) of edges of which e and f are parallel, f and g are, and e and g are not."""
     edges = graph.edges

@@ -1,6 +1,5 @@
 """Things to test with, and slow answers worked out from the words of the document alone."""
 
-import copy
 import random
 import unittest
 from functools import lru_cache
@@ -412,6 +411,17 @@ def same_kind(one, other):
     return one == other
 
 
+def laid_out(value):
+    """A copy of a value in which objects of the package give way to their attributes."""
+    if isinstance(value, (list, tuple)):
+        return (type(value).__name__, [laid_out(member) for member in value])
+    if isinstance(value, dict):
+        return (type(value).__name__, [(name, laid_out(member)) for name, member in value.items()])
+    if type(value).__module__.startswith("middlewebs."):
+        return (type(value).__name__, laid_out(vars(value)))
+    return (type(value).__name__, value)
+
+
 class Case(unittest.TestCase):
 
     def assert_same(self, found, expected):
@@ -430,8 +440,8 @@ class Case(unittest.TestCase):
 
     def assert_refused(self, error_class, call, *args, **named):
         """The call raises this error with just its last argument, and leaves all of its arguments as they were."""
-        before = copy.deepcopy((args, named))
+        before = laid_out((args, named))
         value = list(named.values())[-1] if named else args[-1]
         error = self.assert_told(error_class, {"value": value}, call, *args, **named)
         self.assertIs(error.value, value)
-        self.assertEqual((args, named), before)
+        self.assertEqual(laid_out((args, named)), before)

@@ -56,7 +56,8 @@ def cubes_by_hand(graph):
 
 def small_graphs():
     tail = Graph(9, [*Graph.cube(3).edges, (7, 8)])
-    return [graph for graph in many_median_graphs() if graph.size <= 10] + [tail, mixed(tail, 4), Graph.path(3) * SQUARE]
+    return [graph for graph in many_median_graphs() if graph.size <= 10] + [tail, mixed(tail, 4),
+                                                                            Graph.path(3) * SQUARE]
 
 
 class Cubes(Case):
@@ -123,7 +124,8 @@ class CubeCounts(Case):
     def test_hypercubes_trees_and_grids(self):
         for d in range(6):
             self.assert_same(cube_counts(Graph.cube(d)), tuple(comb(d, k) * 2 ** (d - k) for k in range(d + 1)))
-        for graph in (joined(40, [(k // 3, k + 1) for k in range(39)]), joined(17, [(k * k % (k + 1), k + 1) for k in range(16)])):
+        for graph in (joined(40, [(k // 3, k + 1) for k in range(39)]),
+                      joined(17, [(k * k % (k + 1), k + 1) for k in range(16)])):
             self.assert_same(cube_counts(mixed(graph, 3)), (graph.size, graph.size - 1))
         for a, b in ((2, 20), (5, 8), (6, 6), (13, 3)):
             counts = (a * b, (a - 1) * b + a * (b - 1), (a - 1) * (b - 1))

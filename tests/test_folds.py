@@ -7,7 +7,8 @@ from functools import lru_cache
 from itertools import combinations, product
 
 from helper import (
-    DEEP, Case, all_words, clauses_of, closure_of, grown_graphs, is_true_in, majority_of, many_median_graphs, no_numbers,
+    DEEP, Case, all_words, clauses_of, closure_of, grown_graphs, is_true_in, majority_of, many_median_graphs,
+    no_numbers,
     no_words, single_letters, steps_of, word_sets,
 )
 from middlewebs.errors import InvalidFolding, InvalidWord, TooLarge, Undefined
@@ -42,7 +43,8 @@ def foldable_sets():
     """Pairs of a length from 0 to 6 and closed and reduced words of it."""
     pairs = {(length, tuple(closure_of(words))) for length, words in word_sets()}
     pairs |= {(6, tuple(steps_of(6))), (6, tuple([(0,) * 6] + single_letters(6))), (0, ((),))}
-    pairs |= {(graph_words(graph).length, graph_words(graph).words) for graph in many_median_graphs() if graph.size <= 40}
+    pairs |= {(graph_words(graph).length,
+               graph_words(graph).words) for graph in many_median_graphs() if graph.size <= 40}
     return sorted(pair for pair in pairs if pair[0] <= 6 and is_reduced_by_hand(*pair) and len(pair[1]) <= 40)
 
 
@@ -235,7 +237,8 @@ class Foldings(Case):
     def test_attributes_by_position_and_by_name(self):
         for length, words in foldable_sets()[::4]:
             images = folding(Words(length, words)).images
-            for made in (Folding(length, images), Folding(length, images=images), Folding(images=images, length=length)):
+            for made in (Folding(length, images), Folding(length, images=images),
+                         Folding(images=images, length=length)):
                 self.assert_same(made.length, length)
                 self.assert_same(made.images, images)
                 self.assertLessEqual({"length", "images"}, set(vars(made)))
@@ -291,7 +294,8 @@ class Foldings(Case):
         right = tuple(all_words(2))
         told = {"part": "images", "place": 0}
         wrong = [
-            None, True, False, 0, 4, "", "0011", (), [], list(right), right[:3], right + (right[0],), right * 2, (right,), DEEP,
+            None, True, False, 0, 4, "", "0011", (), [], list(right), right[:3], right + (right[0],), right * 2,
+            (right,), DEEP,
             tuple(all_words(1)), tuple(all_words(3)), SQUARE, Graph(1, []), [right], right * 300,
         ]
         for value in wrong:
@@ -309,7 +313,8 @@ class Foldings(Case):
             for place in (0, 1, 4, 7):
                 images = right[:place] + (value,) + right[place + 1:]
                 self.assert_told(InvalidFolding, {"part": "images", "place": place}, Folding, 3, images)
-            self.assert_told(InvalidFolding, {"part": "images", "place": 2}, Folding, 3, right[:2] + (value,) + right[3:7] + (None,))
+            self.assert_told(InvalidFolding, {"part": "images", "place": 2}, Folding, 3,
+                             right[:2] + (value,) + right[3:7] + (None,))
 
     def test_words_are_asked_ahead_of_rest_and_rest_ahead_of_step(self):
         self.assert_told(InvalidFolding, {"part": "images", "place": 3}, Folding, 2, ((1, 1), (0, 0), (0, 1), (0, 2)))

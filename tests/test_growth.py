@@ -100,7 +100,8 @@ class Expanded(Case):
         self.assert_same(expanded(Graph.path(20), tuple(range(20))).size, 40)
         self.assert_same(expanded(Graph.path(27), tuple(range(13))).size, 40)
         for graph, subset in (
-            (Graph.path(40), (0,)), (Graph.path(40), tuple(range(40))), (Graph.path(39), (0, 1)), (Graph.cube(5), tuple(range(32))),
+            (Graph.path(40), (0,)), (Graph.path(40), tuple(range(40))), (Graph.path(39), (0, 1)),
+            (Graph.cube(5), tuple(range(32))),
             (Graph.path(21), tuple(range(1, 21))), (Graph.cycle(40), (7,)),
         ):
             self.assert_told(TooLarge, VERTICES, expanded, graph, subset)
@@ -146,7 +147,8 @@ class Growths(Case):
         one, other = Growth([(0,), (0,)]), Growth([(0,), (1,)])
         self.assertIs(one == other, False)
         for growth in (Growth([]), Growth([(0,)])):
-            for value in (None, 0, False, (), [], growth.subsets, list(growth.subsets), "growth", Graph(1, []), grown(growth),
+            for value in (None, 0, False, (), [], growth.subsets, list(growth.subsets), "growth", Graph(1, []),
+                          grown(growth),
                           Clauses(0, []), ((0,),)):
                 self.assertIs(growth == value, False)
                 self.assertIs(value == growth, False)
@@ -284,9 +286,12 @@ class GrowthOf(Case):
                 self.assert_growth(renamed(graph, names))
 
     def test_hypercubes_trees_grids_and_products(self):
-        trees = [joined(24, [(k // 2, k + 1) for k in range(23)]), joined(40, [(k * k % (k + 1), k + 1) for k in range(39)])]
-        grids = [Graph.path(6) * Graph.path(6), Graph.path(13) * Graph.path(3), Graph.path(3) * Graph.path(3) * Graph.path(4)]
-        for graph in [Graph.cube(k) for k in range(6)] + trees + grids + [trees[0] * Graph(1, []), Graph.cube(4) * Graph.path(2)]:
+        trees = [joined(24, [(k // 2, k + 1) for k in range(23)]),
+                 joined(40, [(k * k % (k + 1), k + 1) for k in range(39)])]
+        grids = [Graph.path(6) * Graph.path(6), Graph.path(13) * Graph.path(3),
+                 Graph.path(3) * Graph.path(3) * Graph.path(4)]
+        for graph in [Graph.cube(k) for k in range(6)] + trees + grids + [trees[0] * Graph(1, []),
+                                                                          Graph.cube(4) * Graph.path(2)]:
             for step in (1, 3, 7):
                 self.assert_growth(mixed(graph, step))
 
@@ -311,7 +316,8 @@ class GrowthOf(Case):
                 if subset and graph.size + len(subset) <= 5
             ]
             found += level
-        named = {(graph.size, renamed_by(graph, names).edges) for graph in found for names in permutations(range(graph.size))}
+        named = {(graph.size, renamed_by(graph,
+                                         names).edges) for graph in found for names in permutations(range(graph.size))}
         median = {(graph.size, graph.edges) for graph in tiny_graphs(5) if is_median_in(table_of(graph))}
         self.assertEqual(named, median)
 
@@ -326,9 +332,11 @@ class GrowthOf(Case):
 class IsGrowthOf(Case):
 
     def test_all_names_of_small_graphs(self):
-        for graph in (SQUARE, Graph.path(4), Graph(4, [(0, 1), (0, 2), (0, 3)]), Graph(4, [(0, 3), (1, 3), (2, 3)]), Graph.cycle(3),
+        for graph in (SQUARE, Graph.path(4), Graph(4, [(0, 1), (0, 2), (0, 3)]), Graph(4, [(0, 3), (1, 3), (2, 3)]),
+                      Graph.cycle(3),
                       Graph(4, [(0, 1), (0, 2), (1, 2), (1, 3), (2, 3)])):
-            for subsets in ([(0,), (0, 1)], [(0,), (0,), (0,)], [(0,), (1,), (2,)], [(0,), (0,), (1,)], [(0,), (1,)], []):
+            for subsets in ([(0,), (0, 1)], [(0,), (0,), (0,)], [(0,), (1,), (2,)], [(0,), (0,), (1,)], [(0,), (1,)],
+                            []):
                 for names in permutations(range(graph.size)):
                     expected = is_growth_by_hand(graph, subsets, names)
                     self.assertIs(is_growth_of(graph, (Growth(subsets), names)), expected)
@@ -368,13 +376,19 @@ class IsGrowthOf(Case):
         growth, names = Growth([(0,), (0, 1)]), (0, 1, 2, 3)
         wrong = [
             None, True, False, 0, 1, "", "growth", (), [], DEEP, growth, names, (growth,), (names,), [growth, names],
-            (names, growth), (growth, names, names), (growth, growth), (names, names), (growth, list(names)), (growth, names + (4,)),
-            (growth, names[:3]), (growth, (0, 1, 2, 2)), (growth, (0, 1, 2, 4)), (growth, (0, 1, 3, 2, 2)), (growth, (False, True, 2, 3)),
-            (growth, (0, True, 2, 3)), (growth, ("0", "1", "2", "3")), (growth, "0123"), (growth, None), (growth, ((0, 1, 2, 3),)),
-            (growth, (0, 1, 2, None)), (growth, (0, 1, 2, [3])), (growth, (0, 1, 2, -1)), (growth, DEEP), (growth, SQUARE),
-            (growth.subsets, names), (list(growth.subsets), names), (SQUARE, names), (Growth([]), names), (Growth([(0,)]), names),
+            (names, growth), (growth, names, names), (growth, growth), (names, names), (growth, list(names)),
+            (growth, names + (4,)),
+            (growth, names[:3]), (growth, (0, 1, 2, 2)), (growth, (0, 1, 2, 4)), (growth, (0, 1, 3, 2, 2)),
+            (growth, (False, True, 2, 3)),
+            (growth, (0, True, 2, 3)), (growth, ("0", "1", "2", "3")), (growth, "0123"), (growth, None),
+            (growth, ((0, 1, 2, 3),)),
+            (growth, (0, 1, 2, None)), (growth, (0, 1, 2, [3])), (growth, (0, 1, 2, -1)), (growth, DEEP),
+            (growth, SQUARE),
+            (growth.subsets, names), (list(growth.subsets), names), (SQUARE, names), (Growth([]), names),
+            (Growth([(0,)]), names),
             (Growth([(0,), (0,), (0,)]), names), (Clauses(0, []), names), ((growth,), names), ([growth], names), SQUARE,
-            (growth, (0, 3, 1, 2)), (growth, (1, 0, 2, 3)), (None, names), (True, names), (0, 0), ("growth", names), (growth, (0,) * 1500),
+            (growth, (0, 3, 1, 2)), (growth, (1, 0, 2, 3)), (None, names), (True, names), (0, 0), ("growth", names),
+            (growth, (0,) * 1500),
         ]
         for value in wrong:
             self.assertIs(is_growth_of(SQUARE, value), False, repr(value))
@@ -382,7 +396,8 @@ class IsGrowthOf(Case):
             self.assertIs(is_growth_of(SQUARE, (growth, right)), True)
         one = Graph(1, [])
         self.assertIs(is_growth_of(one, (Growth([]), (0,))), True)
-        for value in ((Growth([]), ()), (Growth([]), (1,)), (Growth([]), (False,)), (Growth([]), [0]), (Growth([(0,)]), (0,)),
+        for value in ((Growth([]), ()), (Growth([]), (1,)), (Growth([]), (False,)), (Growth([]), [0]),
+                      (Growth([(0,)]), (0,)),
                       [Growth([]), (0,)], (Growth([]), (0,), (0,)), Growth([])):
             self.assertIs(is_growth_of(one, value), False)
 

@@ -8,6 +8,7 @@ import unittest
 from pathlib import Path
 
 from middlewebs.clauses import Clauses
+from middlewebs.desk import Desk
 from middlewebs.events import Events
 from middlewebs.folds import Folding
 from middlewebs.graphs import Graph
@@ -93,6 +94,20 @@ FUNCTIONS = {
         "center": ["graph"],
     },
     "cubes": {"cubes": ["graph"], "cube_counts": ["graph"]},
+    "boxes": {
+        "contracted": ["graph", "edges"],
+        "factor": ["graph", "k"],
+        "is_box": ["graph", "value"],
+        "box": ["graph"],
+    },
+    "forms": {
+        "form_of": ["value"],
+        "graph_of": ["value"],
+        "led": ["value", "form"],
+        "are_alike": ["one", "other"],
+    },
+    "texts": {"write": ["value"], "read": ["text"]},
+    "desk": {"Desk": ["graph"], "replayed_desk": ["graph", "commands"]},
     "names": {
         "are_names": ["one", "other", "value"],
         "names_to": ["one", "other"],
@@ -128,6 +143,9 @@ class Interface(unittest.TestCase):
         for name in ("__init__", "__eq__"):
             for each in (Clauses, Events, Growth, Folding):
                 self.assertIn(name, vars(each))
+        for name in ("__init__", "run"):
+            self.assertIn(name, vars(Desk))
+        self.assertEqual(list(inspect.signature(Desk(graph).run).parameters), ["command"])
 
     def test_attributes_are_set_on_each_object(self):
         for graph in (Graph(1, []), Graph.cube(3), Graph.path(2) * Graph.path(2)):
@@ -137,6 +155,7 @@ class Interface(unittest.TestCase):
         self.assertLessEqual({"many", "causes", "conflicts"}, set(vars(Events(0, [], []))))
         self.assertLessEqual({"subsets"}, set(vars(Growth([]))))
         self.assertLessEqual({"length", "images"}, set(vars(Folding(0, ((),)))))
+        self.assertLessEqual({"graph", "start", "commands"}, set(vars(Desk(Graph(1, [])))))
 
 
 class Form(unittest.TestCase):

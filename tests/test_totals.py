@@ -51,7 +51,8 @@ def no_weights(size):
     members = [-1, 41, 42, 10 ** 30, -(10 ** 30), True, False, None, "", "1", (), (1,), [], [1], Graph(1, [])]
     wrong = [right[:k] + (member,) + right[k + 1:] for member in members for k in (0, size - 1)]
     return wrong + [
-        None, True, False, 0, 1, 40, "", "1" * size, (), (1,), right[1:], right + (1,), right * 2, list(right), [], (right,),
+        None, True, False, 0, 1, 40, "", "1" * size, (), (1,), right[1:], right + (1,), right * 2, list(right), [],
+        (right,),
         [right], (right,) * size, (True,) * size, DEEP, SQUARE, Graph.path(size), (1,) * 1500,
     ]
 
